@@ -59,7 +59,12 @@ func isColourNumber(c int64) bool {
 }
 
 func hasColours(tile Tile, c int64) bool {
-	for _, colour := range tile {
+	return areColours(tile[:], c)
+}
+
+// areColours reports whether all elements of a list are colours of sets that have c of them.
+func areColours(list []int64, c int64) bool {
+	for _, colour := range list {
 		if colour < 0 || colour >= c {
 			return false
 		}
