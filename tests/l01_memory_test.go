@@ -49,9 +49,11 @@ func setCalls() map[string]func(t, u impl.Set) []impl.Tile {
 	}
 }
 
-func TestArgumentsAreKept(t *testing.T) {
-	const first, second = "2:0011,0110,1100", "2:0010,1100"
-	for name, call := range setCalls() {
+// wantArgumentsKept checks that calls with two sets return tiles, and neither change these sets nor
+// share memory with them.
+func wantArgumentsKept(t *testing.T, calls map[string]func(t, u impl.Set) []impl.Tile, first, second string) {
+	t.Helper()
+	for name, call := range calls {
 		a, b := marked(first), marked(second)
 		tiles := call(a, b)
 		if len(tiles) == 0 {
@@ -66,6 +68,10 @@ func TestArgumentsAreKept(t *testing.T) {
 			t.Errorf("%s changes an argument, or shares memory with it", name)
 		}
 	}
+}
+
+func TestArgumentsAreKept(t *testing.T) {
+	wantArgumentsKept(t, setCalls(), "2:0011,0110,1100", "2:0010,1100")
 	unsorted := []impl.Tile{{1, 0, 0, 0}, {0, 0, 0, 0}, {1, 0, 0, 0}}
 	impl.SetOf(2, unsorted)
 	if !slices.Equal(unsorted, []impl.Tile{{1, 0, 0, 0}, {0, 0, 0, 0}, {1, 0, 0, 0}}) {
