@@ -191,14 +191,18 @@ func TestOneWrongTile(t *testing.T) {
 	}
 }
 
-func TestFillingsErrors(t *testing.T) {
-	set := setOf("2:0011,1100")
-	bad := [][][]int64{
+// badRows are no rows of numbers of two tiles, all of the same length.
+func badRows() [][][]int64 {
+	return [][][]int64{
 		nil, {}, {nil}, {{}}, {{}, {}}, {{0}, nil}, {nil, {0}}, {{0, 1}, {1}}, {{0}, {1, 0}},
 		{{2}}, {{-1}}, {{0, 2}}, {{0, 0}, {0, -1}}, {{0, 0}, {2, 0}}, {{1<<63 - 1}}, {{-1 << 63}},
 		{{0}, {1}, {0, 1}},
 	}
-	for _, rows := range bad {
+}
+
+func TestFillingsErrors(t *testing.T) {
+	set := setOf("2:0011,1100")
+	for _, rows := range badRows() {
 		yes, code := impl.IsFilling(set, rows)
 		wantCode(t, fmt.Sprintf("IsFilling of %v", rows), yes, code, impl.ErrRange)
 		words, code := impl.BordersOf(set, rows)
