@@ -523,7 +523,13 @@ func TestNothingIsLeftRunning(t *testing.T) {
 			impl.TorusTable(setOf(text))
 		}
 	}
-	// one that has sent all may take a moment to end
+	wantNothingRunning(t, before)
+}
+
+// wantNothingRunning checks that there are no more goroutines than before. One that has done its work
+// may take a moment to end.
+func wantNothingRunning(t *testing.T, before int) {
+	t.Helper()
 	for range 200 {
 		if runtime.NumGoroutine() <= before {
 			return
