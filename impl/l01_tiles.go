@@ -62,6 +62,15 @@ func hasColours(tile Tile, c int64) bool {
 	return areColours(tile[:], c)
 }
 
+func haveColours(tiles []Tile, c int64) bool {
+	for _, tile := range tiles {
+		if !hasColours(tile, c) {
+			return false
+		}
+	}
+	return true
+}
+
 // areColours reports whether all elements of a list are colours of sets that have c of them.
 func areColours(list []int64, c int64) bool {
 	for _, colour := range list {
@@ -80,13 +89,8 @@ func compareTiles(a, b Tile) int {
 // them, and ErrNone. (Tiles that stand more than once are there once.) Errors: ErrLimit if it would
 // have more than MaxTiles tiles.
 func SetOf(c int64, tiles []Tile) (Set, int64) {
-	if !isColourNumber(c) || len(tiles) > maxGiven {
+	if !isColourNumber(c) || len(tiles) > maxGiven || !haveColours(tiles, c) {
 		return Set{}, ErrRange
-	}
-	for _, tile := range tiles {
-		if !hasColours(tile, c) {
-			return Set{}, ErrRange
-		}
 	}
 	different := differentTiles(tiles)
 	if len(different) > MaxTiles {

@@ -420,10 +420,19 @@ func TestFillingsShareNothing(t *testing.T) {
 // other one.
 func wantApart(t *testing.T, what string, lists [][]int64) {
 	t.Helper()
-	before := copied(lists)
-	for i := range lists {
-		fillUp(lists[i : i+1])
-		if !equalRows(lists[i+1:], before[i+1:]) {
+	wantListsApart(t, what, lists, 99)
+}
+
+// wantListsApart is wantApart for lists of anything, with what is written.
+func wantListsApart[T any](t *testing.T, what string, lists [][]T, written T) {
+	t.Helper()
+	for i, list := range lists {
+		before := fmt.Sprint(lists[i+1:])
+		wide := list[:cap(list)]
+		for k := range wide {
+			wide[k] = written
+		}
+		if fmt.Sprint(lists[i+1:]) != before {
 			t.Fatalf("the lists of %s share memory", what)
 		}
 	}
